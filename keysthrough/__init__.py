@@ -1,0 +1,1 @@
+"""Keysthrough: keys told through questions."""
