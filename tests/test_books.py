@@ -335,7 +335,8 @@ class EqualTest(BookTest):
         told = [
             ("key", "q", ["id"]), ("key", "p", ["id"]), ("key", "q", ["of"]), ("key", "q", []),
             ("key", "q", ["id", "id"]), ("settles", "q", ["id"], "of"), ("settles", "p", ["id"], "id"),
-            ("settles", "q", ["id"], "id"), ("settles", "q", ["of"], "of"), ("settles", "q", [], "of"), ("settles", "q", ["id", "of"], "of"),
+            ("settles", "q", ["id"], "id"), ("settles", "q", ["of"], "of"),
+            ("settles", "q", [], "of"), ("settles", "q", ["id", "of"], "of"),
         ]
         for place, one in enumerate(told):
             for other in told[:place]:

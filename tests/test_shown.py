@@ -154,7 +154,8 @@ class FormTest(ShownTest):
             ("pair", A, B, [], []), ("left", A, B), ("left", A, B, [], []), ("where", A), ("where", A, [], []),
             ("show",), ("show", A), ("show", A, ["a.id"], []), ("both", A), ("both", A, B, []), ("both",), ("once",),
             ("once", A, []), ("once", A, A), ("every", "p", "a"), ("", "p", "a"), ("All", "p", "a"), ("one ~ {", A),
-            ("p", "all", "a"), ("pairs", A, B, []), ("lef", A, B, []), ("key", "p", ["id"]), ("is", "a.id", 1), ("all p as a",),
+            ("p", "all", "a"), ("pairs", A, B, []), ("lef", A, B, []), ("key", "p", ["id"]), ("is", "a.id", 1),
+            ("all p as a",),
         ]:
             self.unsound(question)
             self.unsound(("once", question), question)
