@@ -1,9 +1,14 @@
-"""What DOC.md says of questions and stores, written down once more, slowly and plainly, to compare with.
+"""What DOC.md says, written down once more, slowly and plainly, to compare with.
 
-Books stand here as lists of tables and rules, and an error as a tuple (name of its class, value).
+Books stand here as lists of tables and rules, and an error as a tuple (name of its class, value). Of keys, and of what
+is settled, this model knows what it sees in all small stores, which it asks one by one.
 """
 
+import itertools
 import string
+
+from keysthrough.errors import BrokenRule
+from keysthrough.stores import Store
 
 FORMS = {
     "all": ["text", "text"],
@@ -188,6 +193,95 @@ def first_broken(tables, rules, rows):
         if not keeps(tables, rows, rule):
             return index
     return None
+
+
+# What all small stores show. Other values than the missing one and those that a question names are taken as they
+# come: which ones they are does not count, only which of them are the same.
+
+FRESH = 101
+
+
+class Seen:
+    """What the stores of a book with at most so many rows answer."""
+
+    def __init__(self, book, question, most):
+        self.most = most
+        # For each lot of places at which some two rows of an answer are the same, the least number of rows of a store.
+        self.alike = {}
+        # The least number of rows of a store that answers with a row at all.
+        self.answering = None
+        self.stores = 0
+        self._book = book
+        self._question = question
+        self._values = [None, *numbers_in(question)]
+        self._names = [name for name, _ in book.tables if name in tables_in(question)]
+        self._grow(Store(book), [], FRESH)
+
+    def _grow(self, store, last, fresh):
+        self._look(store)
+        if len(store) == self.most:
+            return
+        for index, name in enumerate(self._names):
+            for row, more in self._rows(len(self._book[name]), fresh):
+                # The rows of a table may be told in any order: those are enough that do not descend. If two rows next
+                # to one another descend, the store is also told with these the other way round, and told as less.
+                place = [index, [(value is not None, value) for value in row]]
+                if place < last:
+                    continue
+                try:
+                    store.put(name, row)
+                except BrokenRule:
+                    continue
+                self._grow(store, place, more)
+                store.undo()
+
+    def _rows(self, count, fresh):
+        """All rows with so many values, each with the first value that is still free behind it."""
+        if count == 0:
+            return [((), fresh)]
+        found = []
+        for value in [*self._values, *range(FRESH, fresh + 1)]:
+            behind = fresh + 1 if value == fresh else fresh
+            found += [((value, *row), more) for row, more in self._rows(count - 1, behind)]
+        return found
+
+    def _look(self, store):
+        self.stores += 1
+        rows = store(self._question)
+        if rows and (self.answering is None or self.answering > len(store)):
+            self.answering = len(store)
+        for one, other in itertools.combinations(rows, 2):
+            same = frozenset(place for place in range(len(one)) if one[place] == other[place])
+            self.alike[same] = min(self.alike.get(same, self.most), len(store))
+
+    def against(self, places, settled=None):
+        """The least number of rows of a store that shows that a lot of places is no key, or does not settle a place."""
+        found = [count for same, count in self.alike.items() if same >= set(places) and settled not in same]
+        return min(found, default=None)
+
+
+def numbers_in(question):
+    """The numbers that the conditions in a question name."""
+    told = [condition for part in parts_in(question) if part[0] == "where" for condition in part[2]]
+    return sorted({condition[2] for condition in told if condition[0] == "is"})
+
+
+def tables_in(question):
+    return {part[1] for part in parts_in(question) if part[0] == "all"}
+
+
+def lots_of(columns):
+    """All lots of columns, in the order of DOC.md."""
+    return [list(lot) for count in range(len(columns) + 1) for lot in itertools.combinations(columns, count)]
+
+
+def shows_against(rows, places, settled=None):
+    """Whether two rows of an answer are the same at some places, and differ, if a place is told, there."""
+    for one, other in itertools.combinations(rows, 2):
+        if all(one[place] == other[place] for place in places):
+            if settled is None or one[settled] != other[settled]:
+                return True
+    return False
 
 
 # What is drawn: `draw` is a random.Random with a fixed seed.
