@@ -6,7 +6,8 @@ from keysthrough.books import parts_of
 def show_book(book):
     """Return the text of a book: its tables, then its rules."""
     tables = [" ".join(["table", name, *columns]) for name, columns in book.tables]
-    return "; ".join([*tables, *[rule_text(rule) for rule in book.rules]])
+    rules = [rule_text(rule) for rule in book.rules]
+    return "; ".join(tables + rules)
 
 
 def rule_text(rule):
